@@ -1,0 +1,1 @@
+"""Unison: two who walk on ridges, always at like height."""
