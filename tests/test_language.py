@@ -45,6 +45,32 @@ def nodes(*kinds):
     return [(name, node) for name, tree in trees() for node in ast.walk(tree) if isinstance(node, kinds)]
 
 
+def bound_at_the_top(tree):
+    bound = []
+    for node in tree.body:
+        if isinstance(node, ast.ImportFrom):
+            bound += [part.asname or part.name for part in node.names]
+        elif isinstance(node, (ast.FunctionDef, ast.ClassDef)):
+            bound.append(node.name)
+        elif isinstance(node, ast.Assign):
+            bound += [target.id for target in node.targets]
+    return bound
+
+
+def classes_and_imports(tree):
+    return [
+        called
+        for node in tree.body
+        if isinstance(node, (ast.ImportFrom, ast.ClassDef))
+        for called in bound_at_the_top(ast.Module([node], []))
+    ]
+
+
+def drawn_from(module):
+    tree = dict(trees())[module.split(".")[-1] + ".py"]
+    return [node.module for node in tree.body if isinstance(node, ast.ImportFrom)]
+
+
 def own_methods_and_values():
     methods = [part.name for name, node in nodes(ast.ClassDef) for part in node.body if isinstance(part, ast.FunctionDef)]
     values = [node.attr for name, node in nodes(ast.Attribute) if isinstance(node.ctx, ast.Store)]
@@ -81,6 +107,50 @@ class Code(unittest.TestCase):
                     self.assertIn(node, tree.body, name)
                     self.assertEqual(node.level, 0, name)
                     self.assertRegex(node.module, r"^unison\.[a-z]", name)
+
+    def test_no_two_files_draw_from_one_another(self):
+        def walk(module, above):
+            self.assertNotIn(module, above)
+            for other in drawn_from(module):
+                walk(other, above + [module])
+        for name, tree in trees():
+            if name != "__init__.py":
+                walk("unison." + name[:-3], [])
+
+    def test_names_come_from_the_file_that_defines_them(self):
+        for name, node in nodes(ast.ImportFrom):
+            tree = dict(trees())[node.module.split(".")[-1] + ".py"]
+            defined = [part for part in bound_at_the_top(tree) if part not in
+                       [alias.name for row in tree.body if isinstance(row, ast.ImportFrom) for alias in row.names]]
+            for part in node.names:
+                self.assertIn(part.name, defined, name)
+
+    def test_each_name_is_bound_once_at_the_top(self):
+        for name, tree in trees():
+            bound = bound_at_the_top(tree)
+            self.assertEqual(sorted(set(bound)), sorted(bound), name)
+
+    def test_no_local_is_called_like_a_class_or_an_import(self):
+        for name, tree in trees():
+            taken = classes_and_imports(tree)
+            for top in tree.body:
+                if isinstance(top, (ast.FunctionDef, ast.ClassDef)):
+                    for node in ast.walk(top):
+                        if isinstance(node, ast.arg):
+                            self.assertNotIn(node.arg, taken, (name, node.lineno))
+                        if isinstance(node, ast.Name) and isinstance(node.ctx, ast.Store):
+                            self.assertNotIn(node.id, taken, (name, node.lineno))
+
+    def test_one_plain_target_in_an_assignment(self):
+        for name, node in nodes(ast.Assign):
+            self.assertEqual(len(node.targets), 1, (name, node.lineno))
+            self.assertIsInstance(node.targets[0], (ast.Name, ast.Attribute, ast.Subscript), (name, node.lineno))
+
+    def test_no_method_is_a_value_too(self):
+        methods = [part.name for name, node in nodes(ast.ClassDef) for part in node.body
+                   if isinstance(part, ast.FunctionDef)]
+        values = [node.attr for name, node in nodes(ast.Attribute) if isinstance(node.ctx, ast.Store)]
+        self.assertEqual(set(methods) & set(values), set())
 
     def test_functions_are_plain_and_short(self):
         for name, node in nodes(ast.FunctionDef):

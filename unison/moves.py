@@ -5,6 +5,7 @@ from unison.ridges import heights
 
 MOVES = ("ff", "fb", "bf", "bb")
 TAKEN_BACK = {"ff": "bb", "fb": "bf", "bf": "fb", "bb": "ff"}
+STEPS = {"f": 1, "b": -1}
 
 
 # True and False count as int for Python, but they are no numbers here.
@@ -14,24 +15,30 @@ def is_place(levels, value):
 
 # Two ridges are taken as their heights here, so that who asks at many places counts them once.
 def are_alike(levels, other_levels, first, second):
-    if not is_place(levels, first) or not is_place(other_levels, second):
+    if not 0 <= first < len(levels) or not 0 <= second < len(other_levels):
         return False
     return levels[first] == other_levels[second]
 
 
-def stepped(place, letter):
-    return place + 1 if letter == "f" else place - 1
+def check_places(levels, other_levels, first, second):
+    there = is_place(levels, first) and is_place(other_levels, second)
+    if not there or not are_alike(levels, other_levels, first, second):
+        raise BadPlaces("two places are whole numbers, on the ridges and of like height")
+
+
+def led_to(first, second, move):
+    return (first + STEPS[move[0]], second + STEPS[move[1]])
 
 
 def can_be_done(levels, other_levels, first, second, move):
-    return are_alike(levels, other_levels, stepped(first, move[0]), stepped(second, move[1]))
+    pair = led_to(first, second, move)
+    return are_alike(levels, other_levels, pair[0], pair[1])
 
 
 def moves_at(one, other, first, second):
     levels = heights(one)
     other_levels = heights(other)
-    if not are_alike(levels, other_levels, first, second):
-        raise BadPlaces("two places are whole numbers, on the ridges and of like height")
+    check_places(levels, other_levels, first, second)
     return [move for move in MOVES if can_be_done(levels, other_levels, first, second, move)]
 
 
